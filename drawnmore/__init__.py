@@ -1,0 +1,1 @@
+"""Draws that may come of a greater urn."""
