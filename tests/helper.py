@@ -1,9 +1,10 @@
-"""What several tests need: wrong values, sample rows, and rows worked out
-order by order, the slow and plain way."""
+"""What several tests need: wrong values, sample rows, rows worked out order by
+order, and lots of urns found by trying all points, the slow and plain way."""
 
 import unittest
 from fractions import Fraction
-from itertools import permutations, product
+from functools import lru_cache
+from itertools import combinations, permutations, product
 from math import comb, gcd, lcm
 
 from drawnmore.rows import Row
@@ -130,6 +131,163 @@ def thrown(top, bottom, draws):
     return [Fraction(count, sum(found)) for count in found]
 
 
+def row_of(values):
+    """The row whose counts stand to one another as these numbers; None if one is
+    below 0 or all are 0."""
+    values = [Fraction(value) for value in values]
+    if min(values) < 0 or max(values) == 0:
+        return None
+    return Row(plain(values))
+
+
+def urn_rates(slips, yes, draws):
+    """The rates of an urn."""
+    return [Fraction(comb(yes, k) * comb(slips - yes, draws - k), comb(slips, draws)) for k in range(draws + 1)]
+
+
+def turned_about(table):
+    """The table that takes back what a square table with fractions does."""
+    size = len(table)
+    lines = [[*line, *[Fraction(i == j) for j in range(size)]] for i, line in enumerate(table)]
+    for at in range(size):
+        found = next(k for k in range(at, size) if lines[k][at] != 0)
+        lines[at], lines[found] = lines[found], lines[at]
+        lines[at] = [value / lines[at][at] for value in lines[at]]
+        for k in range(size):
+            if k != at and lines[k][at] != 0:
+                lines[k] = [one - lines[k][at] * two for one, two in zip(lines[k], lines[at])]
+    return [line[size:] for line in lines]
+
+
+@lru_cache(maxsize=None)
+def ways_back(slips, draws):
+    """For all sets of draws + 1 urns: what makes their shares of the rates.
+
+    All in integers, as pairs of the urns and of the lines of a table, multiplied
+    by a number above 0.
+    """
+    found = []
+    for urns in combinations(range(slips + 1), draws + 1):
+        columns = [urn_rates(slips, yes, draws) for yes in urns]
+        table = turned_about([[column[k] for column in columns] for k in range(draws + 1)])
+        bottom = lcm(*[value.denominator for line in table for value in line])
+        found.append((urns, [[int(value * bottom) for value in line] for line in table], bottom))
+    return found
+
+
+def tried_lots(row, slips):
+    """All lots of at most draws + 1 urns with the row, as dicts from yes slips to shares.
+
+    If any lot has the row, then one of these; and of all lots these have the
+    least and the greatest of whatever is added up from the shares.
+    """
+    many = sum(row.counts)
+    found = []
+    for urns, table, bottom in ways_back(slips, row.draws):
+        tops = []
+        for line in table:
+            tops.append(sum(a * count for a, count in zip(line, row.counts)))
+            if tops[-1] < 0:
+                break
+        else:
+            found.append({yes: Fraction(top, bottom * many) for yes, top in zip(urns, tops)})
+    return found
+
+
+def chance_of_all(row, many):
+    """The all-yes chance, from the rates alone."""
+    return sum(rate * Fraction(comb(k, many), comb(row.draws, many)) for k, rate in enumerate(rates(row)))
+
+
+def mean_of(row, slips, function):
+    """The mean of a polynomial whose degree is at most that of the draws, as the document tells it."""
+    steps = [function(yes) for yes in range(row.draws + 1)]
+    total = Fraction(0)
+    for j in range(row.draws + 1):
+        total += steps[0] * chance_of_all(row, j) * comb(slips, j)
+        steps = [two - one for one, two in zip(steps, steps[1:])]
+    return total
+
+
+def product_at(points, at):
+    """The product of all at - a."""
+    found = 1
+    for point in points:
+        found *= at - point
+    return found
+
+
+def is_even(points, slips):
+    """Whether a tuple is even for so many slips, by parting it."""
+    points = list(points)
+    if any(two <= one for one, two in zip(points, points[1:])) or len(points) > slips:
+        return False
+    if points and not 0 <= points[0] <= points[-1] <= slips:
+        return False
+    for alone in (points, points[1:] if points[:1] == [0] else points):
+        for left in (alone, alone[:-1] if alone[-1:] == [slips] else alone):
+            if len(left) % 2 == 0 and all(left[k] + 1 == left[k + 1] for k in range(0, len(left), 2)):
+                return True
+    return False
+
+
+def sign_of(points, slips):
+    """1 or -1, as the product of all M - a is nowhere below or nowhere above 0.
+
+    It is looked at on both sides of each point, where it could change; None if
+    it does.
+    """
+    near = {at + step for at in points for step in range(-6, 7)} | {0, slips}
+    values = [product_at(points, at) for at in near if 0 <= at <= slips]
+    if min(values) >= 0:
+        return 1
+    return -1 if max(values) <= 0 else None
+
+
+def longer(row, chance):
+    """The row of one draw more with this all-yes chance for all of them; None if there is none."""
+    chances = [*[chance_of_all(row, j) for j in range(row.draws + 1)], Fraction(*chance)]
+    many = row.draws + 1
+    orders = [
+        sum((-1) ** i * comb(many - k, i) * chances[k + i] for i in range(many - k + 1))
+        for k in range(many + 1)
+    ]
+    return row_of([comb(many, k) * order for k, order in enumerate(orders)])
+
+
+def lot_rows(many, most_slips, seed=1):
+    """Rows of lots of few urns: rows at the edge of what comes of their slips."""
+    pick = picker(seed)
+    found = []
+    while len(found) < many:
+        draws = 1 + pick(5)
+        slips = draws + pick(most_slips - draws + 1)
+        sums = [Fraction(0)] * (draws + 1)
+        for _ in range(1 + pick(4)):
+            weight = (1, 1, 2, 7, 10 ** 12)[pick(5)]
+            sums = [one + weight * two for one, two in zip(sums, urn_rates(slips, pick(slips + 1), draws))]
+        found.append(Row(plain(sums)))
+    return found
+
+
+def great_lots(many, slips, seed):
+    """Rows of lots of urns of so many slips, with draws from 1 to 5, near the ends and in the middle."""
+    pick = picker(seed)
+    found = []
+    for _ in range(many):
+        places = {
+            (pick(slips + 1), pick(min(slips, 9) + 1), slips - pick(min(slips, 9) + 1), slips // 2 + pick(3))[pick(4)]
+            for _ in range(1 + pick(5))
+        }
+        weights = [1 + pick((1, 9, 10 ** 20)[pick(3)]) for _ in places]
+        draws = 1 + pick(5)
+        sums = [Fraction(0)] * (draws + 1)
+        for yes, weight in zip(sorted(places), weights):
+            sums = [one + weight * two for one, two in zip(sums, urn_rates(slips, yes, draws))]
+        found.append(Row(plain(sums)))
+    return found
+
+
 def picker(seed):
     """A function that gives one number below another after the other."""
     state = [seed]
@@ -173,6 +331,53 @@ def some_fractions(many, below, seed=1):
     return found
 
 
+def given(error, values):
+    """A parameter's wrong values for a table of calls; the error keeps them as they are."""
+    return (error, "given", [(value, value) for value in values])
+
+
+def index(error, values):
+    """A parameter's wrong values for a table of calls, each with the index that is due."""
+    return (error, "index", values)
+
+
+class CallTable:
+    """Tests over CALLS: each function with right arguments, and with the wrong
+    ones in the order of the signature."""
+
+    CALLS = []
+
+    def test_one_wrong(self):
+        for call, right, wrong in self.CALLS:
+            for name, (error, attribute, values) in wrong.items():
+                for value, told in values:
+                    arguments = {**right, name: value}
+                    self.assert_raises(error, (attribute, told), call, **arguments)
+                    self.assert_raises(error, (attribute, told), call, *arguments.values())
+
+    def test_the_first_in_the_order_of_the_signature(self):
+        for call, right, wrong in self.CALLS:
+            for many in range(2, len(right) + 1):
+                for names in combinations(right, many):
+                    error, attribute, values = wrong[names[0]]
+                    for at, (value, told) in enumerate(values):
+                        arguments = {**right, names[0]: value}
+                        for name in names[1:]:
+                            others = wrong[name][2]
+                            arguments[name] = others[at * 7 % len(others)][0]
+                        self.assert_raises(error, (attribute, told), call, **arguments)
+
+    def test_all_wrong_pairs_of_the_last_two(self):
+        for call, right, wrong in self.CALLS:
+            if len(right) > 1:
+                first, second = list(right)[-2:]
+                error, attribute, values = wrong[first]
+                for value, told in values[::5]:
+                    for other, _ in wrong[second][2][::5]:
+                        arguments = {**right, first: value, second: other}
+                        self.assert_raises(error, (attribute, told), call, **arguments)
+
+
 class Case(unittest.TestCase):
     """Tests with a word for raised errors."""
 
@@ -204,3 +409,27 @@ class Case(unittest.TestCase):
         self.assertIs(value.__class__, tuple)
         self.assertEqual([part.__class__ for part in value], [int, int])
         self.assertEqual(value, pair(right))
+
+    def assert_lot(self, urns, row, slips):
+        """This is a lot of urns that has the row."""
+        self.assertIs(urns.__class__, tuple)
+        self.assertTrue(all(urn.__class__ is tuple and len(urn) == 2 for urn in urns))
+        many = [yes for yes, _ in urns]
+        self.assertTrue(all(yes.__class__ is int and 0 <= yes <= slips for yes in many))
+        self.assertEqual(many, sorted(set(many)))
+        sums = [Fraction(0)] * (row.draws + 1)
+        for yes, share in urns:
+            self.assert_fraction(share, Fraction(*share))
+            self.assertGreater(Fraction(*share), 0)
+            sums = [one + Fraction(*share) * two for one, two in zip(sums, urn_rates(slips, yes, row.draws))]
+        self.assertEqual(sum(Fraction(*share) for _, share in urns), 1)
+        self.assertTrue(sums == rates(row))
+
+    def assert_tells_against(self, points, row, slips):
+        """This is an even tuple that shows that the row does not come of so many slips, not below its draws."""
+        self.assertIs(points.__class__, tuple)
+        self.assertEqual([point.__class__ for point in points], [int] * row.draws)
+        self.assertTrue(is_even(points, slips), (points, slips))
+        turn = sign_of(points, slips)
+        self.assertIsNotNone(turn)
+        self.assertLess(mean_of(row, slips, lambda at: turn * product_at(points, at)), 0)

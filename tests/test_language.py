@@ -19,8 +19,19 @@ INTERFACE = {
     },
     "rows.py": {"Row"},
     "making.py": {"urn_row", "urns_row", "coin_row", "mixed", "all_yes", "swapped", "fewer", "behind"},
+    "extending.py": {"comes", "urns", "against", "always", "greatest"},
+    "further.py": {"next_chances", "next_yes", "most_share", "least_share", "stretch"},
+    "mends.py": {"holds", "mends"},
+    "watches.py": {"Watch"},
 }
-ROW_METHODS = {"read", "counts", "rates", "draws", "text", "changed", "__eq__", "__len__", "__str__", "__repr__"}
+CLASS_METHODS = {
+    ("rows.py", "Row"): {
+        "read", "counts", "rates", "draws", "text", "changed", "__eq__", "__len__", "__str__", "__repr__",
+    },
+    ("watches.py", "Watch"): {
+        "note", "undo", "row", "noted", "rest", "trial", "tried", "__len__", "__bool__",
+    },
+}
 
 LIBRARY = {
     "math": {"gcd", "lcm", "isqrt", "comb", "perm", "factorial"},
@@ -73,6 +84,7 @@ WORDS = set(
 PARTS = ("dataclass", "overload", "contextmanager", "(type)", "Meta", "metaclass=")
 PLAIN = (ast.Constant, ast.Tuple, ast.List, ast.Dict, ast.BinOp, ast.UnaryOp, ast.operator, ast.unaryop, ast.Load,
          ast.Name)
+NAMED = (ast.Pass, ast.Assign, ast.Name, ast.Attribute, ast.Constant, ast.Tuple, ast.List, ast.Load, ast.Store)
 AT_ONCE = {"list", "tuple", "dict", "sorted", "sum", "any", "all", "enumerate", "zip", "min", "max"}
 
 
@@ -175,7 +187,7 @@ class Sight:
             if not (isinstance(node.exc, ast.Call) and isinstance(node.exc.func, ast.Name)):
                 self.say("L19", node, "raise of what is not created on the spot")
         if isinstance(node, ast.ExceptHandler):
-            caught = node.elts if isinstance(node.type, ast.Tuple) else [node.type]
+            caught = node.type.elts if isinstance(node.type, ast.Tuple) else [node.type]
             for error in caught:
                 if not isinstance(error, ast.Name) or error.id in ERRORS - {"KeyError", "ZeroDivisionError"}:
                     self.say("L19", node, "a caught error")
@@ -257,6 +269,11 @@ class Sight:
         returns = [part.value for part in ast.walk(node) if isinstance(part, ast.Return)]
         if node.name == "__init__" and returns:
             self.say("L28", node, "__init__ returns")
+        if node.name == "__exit__":
+            for part in node.body:
+                plain = isinstance(part, ast.Pass) or isinstance(part, ast.Assign) and len(part.targets) == 1
+                if not plain or not all(isinstance(inner, NAMED) for inner in ast.walk(part)):
+                    self.say("L6", part, "__exit__")
         if node.name == "__len__":
             for value in returns:
                 if not isinstance(value, ast.Constant) and not ast.unparse(value).startswith("len("):
@@ -410,8 +427,9 @@ class Language(unittest.TestCase):
     def test_interface_is_defined_where_it_is_listed(self):
         for name, listed in INTERFACE.items():
             self.assertEqual(listed - self.defined[name], set(), name)
-        row = [node for node in self.trees["rows.py"].body if getattr(node, "name", None) == "Row"][0]
-        self.assertEqual(ROW_METHODS - {part.name for part in row.body if isinstance(part, ast.FunctionDef)}, set())
+        for (name, owner), methods in CLASS_METHODS.items():
+            body = [node for node in self.trees[name].body if getattr(node, "name", None) == owner][0].body
+            self.assertEqual(methods - {part.name for part in body if isinstance(part, ast.FunctionDef)}, set(), owner)
 
     def test_tests_stand_outside(self):
         self.assertFalse([name for name in self.sources if name.startswith("test")])
@@ -424,7 +442,9 @@ BAD = {
     "L3": ["print(1)", "x = f(1)", "if True:\n    x = 1", "for x in (1, 2):\n    y = x"],
     "L4": ["def f(x=g()):\n    return x", "@g\ndef f():\n    return 1"],
     "L5": ["class A:\n    def __hash__(self):\n        return 1"],
-    "L6": ["def f():\n    global x", "async def f():\n    return 1", "def f(x):\n    x + 1"],
+    "L6": ["def f():\n    global x", "async def f():\n    return 1", "def f(x):\n    x + 1",
+           "class A:\n    def __exit__(self, kind, value, trace):\n        self.x = f()",
+           "class A:\n    def __exit__(self, kind, value, trace):\n        self.x.pop()"],
     "L7": ["x = 1.5", "def f(x):\n    return x / 2", "def f(x):\n    return any(y for y in x)", "x = b''",
            "def f(x):\n    return gcd(*x)\nfrom math import gcd"],
     "L8": ["def f(x):\n    return round(x)", "def f(x):\n    print(x)", "def f(x):\n    return open(x)",
@@ -440,7 +460,8 @@ BAD = {
     "L18": ["class A:\n    pass\ndef f():\n    return [A]", "class A(dict):\n    pass",
             "class A:\n    def f(self):\n        return 1\n    def f(self):\n        return 2"],
     "L19": ["def f(x):\n    raise x", "def f(x):\n    raise ValueError", "def f():\n    try:\n        g()\n"
-            "    except Exception:\n        pass", "def f():\n    try:\n        g()\n    except:\n        pass"],
+            "    except Exception:\n        pass", "def f():\n    try:\n        g()\n    except:\n        pass",
+            "def f():\n    try:\n        g()\n    except (KeyError, TypeError):\n        pass"],
     "L20": ["def f(x, y):\n    return x is y"],
     "L21": ["def f(x: int):\n    return x", "def f() -> int:\n    return 1"],
     "L22": ["def f(x):\n    return int(x, base=2)", "def f(x):\n    return list(iterable=x)"],

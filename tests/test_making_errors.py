@@ -1,13 +1,12 @@
 """The errors of drawnmore.making: each one alone, and several at once."""
 
 import unittest
-from itertools import combinations
 
 from drawnmore.errors import InvalidChance, InvalidNumber, InvalidRows, InvalidUrns, NoChance, NotRow
 from drawnmore.making import all_yes, behind, coin_row, fewer, mixed, swapped, urn_row, urns_row
 from drawnmore.rows import Row
 from tests.helper import (
-    MOST, Case, nested, no_chances, no_fractions, no_integers, no_numbers, no_rows, unusual,
+    MOST, CallTable, Case, given, index, nested, no_chances, no_fractions, no_integers, no_numbers, no_rows, unusual,
 )
 
 ROW = Row((1, 2, 3, 4))
@@ -86,17 +85,6 @@ def wrong_shares():
     return [shares for shares in found if shares != SHARES]
 
 
-# Each function with right arguments, and with the wrong ones in the order of
-# the signature: the error, the attribute, and pairs of a value and what the
-# attribute is then.
-def given(error, values):
-    return (error, "given", [(value, value) for value in values])
-
-
-def index(error, values):
-    return (error, "index", values)
-
-
 CALLS = [
     (urn_row, {"slips": 6, "yes": 3, "draws": 2}, {
         "slips": given(InvalidNumber, no_numbers(1, MOST)),
@@ -133,42 +121,12 @@ CALLS = [
 ]
 
 
-class EachAlone(Case):
+class Calls(CallTable, Case):
+    CALLS = CALLS
+
     def test_right_arguments(self):
         for call, right, _ in CALLS:
             self.assertEqual(call(**right), call(*right.values()))
-
-    def test_one_wrong(self):
-        for call, right, wrong in CALLS:
-            for name, (error, attribute, values) in wrong.items():
-                for value, told in values:
-                    arguments = {**right, name: value}
-                    self.assert_raises(error, (attribute, told), call, **arguments)
-                    self.assert_raises(error, (attribute, told), call, *arguments.values())
-
-
-class SeveralAtOnce(Case):
-    def test_the_first_in_the_order_of_the_signature(self):
-        for call, right, wrong in CALLS:
-            for many in range(2, len(right) + 1):
-                for names in combinations(right, many):
-                    error, attribute, values = wrong[names[0]]
-                    for at, (value, told) in enumerate(values):
-                        arguments = {**right, names[0]: value}
-                        for name in names[1:]:
-                            others = wrong[name][2]
-                            arguments[name] = others[at * 7 % len(others)][0]
-                        self.assert_raises(error, (attribute, told), call, **arguments)
-
-    def test_all_wrong_pairs_of_the_last_two(self):
-        for call, right, wrong in CALLS:
-            if len(right) > 1:
-                first, second = list(right)[-2:]
-                error, attribute, values = wrong[first]
-                for value, told in values[::5]:
-                    for other, _ in wrong[second][2][::5]:
-                        arguments = {**right, first: value, second: other}
-                        self.assert_raises(error, (attribute, told), call, **arguments)
 
 
 class Bounds(Case):
