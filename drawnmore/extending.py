@@ -26,22 +26,13 @@ def comes(row, slips):
 def urns(row, slips):
     """A lot of urns of so many slips that has the row, None if there is none."""
     _check(row, slips)
-    if not does_come(row, slips):
-        return None
-    sums = row_sums(row.counts, slips)
-    return shares_on(sums, highest_points(sums, row.draws + 1, slips))
+    return lot_with(row, slips)
 
 
 def against(row, slips):
     """An even tuple that shows that the row does not come of so many slips, None if it does."""
     _check(row, slips)
-    if slips < row.draws:
-        return ()
-    sums = row_sums(row.counts, slips)
-    points = broken_points(sums, slips)
-    if points is None:
-        return None
-    return tuple(filled(sums, points, slips))
+    return tuple_against(row, slips)
 
 
 def always(row):
@@ -75,6 +66,25 @@ def greatest(row):
 def does_come(row, slips):
     """Whether the row comes of so many slips, which may be any number from 1 on."""
     return slips >= row.draws and broken_points(row_sums(row.counts, slips), slips) is None
+
+
+def lot_with(row, slips):
+    """A lot of urns with the row, None if there is none, for any number of slips from 1 on."""
+    if not does_come(row, slips):
+        return None
+    sums = row_sums(row.counts, slips)
+    return shares_on(sums, highest_points(sums, row.draws + 1, slips))
+
+
+def tuple_against(row, slips):
+    """An even tuple against the row, None if it comes, for any number of slips from 1 on."""
+    if slips < row.draws:
+        return ()
+    sums = row_sums(row.counts, slips)
+    points = broken_points(sums, slips)
+    if points is None:
+        return None
+    return tuple(filled(sums, points, slips))
 
 
 def yes_sums(counts):
@@ -150,17 +160,25 @@ def broken_points(sums, slips):
 def filled(sums, points, slips):
     """As even points with a mean below 0: such ones, as many as there are sums behind the first."""
     while len(points) < len(sums) - 1:
-        first = 0
-        while first in points:
-            first += 1
-        last = slips
-        while last in points:
-            last -= 1
+        first, last = free_ends(points, slips)
         # The polynomial multiplied by M - first, and by last - M, is nowhere
         # below 0. Both add up to a multiple of it: one has a mean below 0, too.
         longer = sorted([first, *points])
         points = longer if mean_on(sums, longer, slips) < 0 else sorted([*points, last])
     return points
+
+
+def free_ends(points, slips):
+    """The least and the greatest integer from 0 to `slips` that is no point.
+
+    Even points stay even with either of them, if at least one other is left.
+    """
+    first, last = 0, slips
+    while first in points:
+        first += 1
+    while last in points:
+        last -= 1
+    return first, last
 
 
 def shares_on(sums, points):

@@ -1,4 +1,4 @@
-"""Integers, fractions, and decimal digits of any length."""
+"""Integers, fractions, decimal digits of any length, and names."""
 
 from math import gcd, lcm
 
@@ -9,6 +9,9 @@ from drawnmore.errors import InvalidNumber
 # read and written in pieces of _WIDTH digits.
 _WIDTH = 60
 _STEP = 10 ** 60
+
+_LETTERS = "abcdefghijklmnopqrstuvwxyz"
+_DIGITS = "0123456789"
 
 
 def is_whole(value):
@@ -91,3 +94,10 @@ def write_decimal(number):
         parts = [piece for part in parts for piece in divmod(part, size)]
     digits = "".join([str(part).zfill(_WIDTH) for part in parts]).lstrip("0")
     return digits if digits else "0"
+
+
+def is_name(value):
+    """Whether this is a letter, and behind it up to seven letters and digits."""
+    if not isinstance(value, str) or len(value) < 1 or len(value) > 8:
+        return False
+    return value[0] in _LETTERS and all([sign in _LETTERS or sign in _DIGITS for sign in value])

@@ -31,14 +31,22 @@ def next_yes(row, yes, slips):
 
 def most_share(row, slips, yes):
     """The greatest share of the urn with so many yes slips in lots that have the row."""
+    return share_and_points(row, slips, yes)[0]
+
+
+def share_and_points(row, slips, yes):
+    """The greatest share of that urn, and even points without `yes`.
+
+    All other urns of the lots in which it has this share are on the points.
+    """
     check_row(row)
     check_number(slips, row.draws, MOST_SLIPS)
     check_number(yes, 0, slips)
     sums = _sums_of_lots(row, slips)
     urn = [sums[0] * perm(yes, j) for j in range(len(sums))]
     # All of it is taken to be this urn, and as little of that taken back as need be.
-    top, bottom = _least_part([one - two for one, two in zip(sums, urn)], urn, slips)
-    return bottom - top, bottom
+    (top, bottom), points = _part_and_points([one - two for one, two in zip(sums, urn)], urn, slips)
+    return (bottom - top, bottom), points
 
 
 def least_share(row, other, slips):
@@ -125,18 +133,27 @@ def _ends_of_count(one, others, slips):
 
 
 def _least_part(sums, more, slips):
-    """The least fraction t from 0 on with which sums + t * more are those of a lot.
+    """The least fraction t from 0 on with which sums + t * more are those of a lot, None for none."""
+    found = _part_and_points(sums, more, slips)
+    return None if found is None else found[0]
 
-    None if there is none. Where a mean is below 0, it takes at least the t with
-    which it is 0; if it does not grow with t, none will do. As it is the least
-    mean of its kind, a few such steps are enough, as with Newton's method.
+
+def _part_and_points(sums, more, slips):
+    """That fraction, and even points whose mean is above 0 for `more`, and 0 with the fraction.
+
+    There are no points if the fraction is 0. Where a mean is below 0, it takes
+    at least the t with which it is 0; if it does not grow with t, none will do.
+    As it is the least mean of its kind, a few such steps are enough, as with
+    Newton's method.
     """
     top, bottom = 0, 1
+    reached = []
     while True:
         points = broken_points([bottom * one + top * two for one, two in zip(sums, more)], slips)
         if points is None:
-            return top, bottom
+            return (top, bottom), reached
         gain = mean_on(more, points, slips)
         if gain <= 0:
             return None
         top, bottom = lowest(-mean_on(sums, points, slips), gain)
+        reached = points

@@ -19,7 +19,7 @@ def urn_row(slips, yes, draws):
 def urns_row(slips, urns, draws):
     """The row of a lot of urns, pairs of yes slips and a share."""
     check_number(slips, 1, MOST_SLIPS)
-    _check_urns(urns, slips)
+    check_urns(urns, slips)
     check_number(draws, 1, min(MOST_DRAWS, slips))
     tables = [_urn_counts(slips, yes, draws) for yes, _ in urns]
     return _blended(tables, [share for _, share in urns])
@@ -86,6 +86,19 @@ def behind(row, draws, yes):
     return Row(tuple(counts))
 
 
+def check_urns(urns, slips):
+    """Raise InvalidUrns for all but lots of urns of so many slips."""
+    if not isinstance(urns, tuple):
+        raise InvalidUrns(None)
+    least = 0
+    for index, urn in enumerate(urns):
+        if not _is_urn(urn, least, slips):
+            raise InvalidUrns(index)
+        least = urn[0] + 1
+    if not add_up_to_one([share for _, share in urns]):
+        raise InvalidUrns(None)
+
+
 def _urn_counts(slips, yes, draws):
     """In how many ways none, one, two .. of the draws are yes."""
     return tuple([comb(yes, k) * comb(slips - yes, draws - k) for k in range(draws + 1)])
@@ -105,18 +118,6 @@ def _blended(tables, shares):
         sum([weight * table[k] for weight, table in zip(weights, tables)])
         for k in range(many)
     ]))
-
-
-def _check_urns(urns, slips):
-    if not isinstance(urns, tuple):
-        raise InvalidUrns(None)
-    least = 0
-    for index, urn in enumerate(urns):
-        if not _is_urn(urn, least, slips):
-            raise InvalidUrns(index)
-        least = urn[0] + 1
-    if not add_up_to_one([share for _, share in urns]):
-        raise InvalidUrns(None)
 
 
 def _is_urn(value, least, slips):

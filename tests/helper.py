@@ -1,12 +1,17 @@
 """What several tests need: wrong values, sample rows, rows worked out order by
-order, and lots of urns found by trying all points, the slow and plain way."""
+order, lots of urns found by trying all points, and certificates held against
+the words of the document, the slow and plain way."""
 
+import re
 import unittest
 from fractions import Fraction
 from functools import lru_cache
 from itertools import combinations, permutations, product
 from math import comb, gcd, lcm
 
+from drawnmore.extending import always, greatest
+from drawnmore.further import most_share, next_chances
+from drawnmore.mends import holds
 from drawnmore.rows import Row
 
 MOST = 10 ** 30
@@ -329,6 +334,155 @@ def some_fractions(many, below, seed=1):
         bottom = 1 + pick(below)
         found.append(pair(Fraction(pick(bottom + 1), bottom)))
     return found
+
+
+def told_row(text):
+    """The row with this text, None if it has not the lines that the document tells."""
+    if text.__class__ is not str:
+        return None
+    for draws in range(1, 6):
+        lines = [f"draws {draws}", *[f"yes {yes} (0|[1-9][0-9]*)" for yes in range(draws + 1)]]
+        found = re.fullmatch("\n".join(lines), text)
+        if found and any(map(int, found.groups())):
+            return Row(tuple(map(int, found.groups())))
+    return None
+
+
+def is_int(value, least, most=None):
+    return value.__class__ is int and value >= least and (most is None or value <= most)
+
+
+def is_fraction(value):
+    if value.__class__ is not tuple or [part.__class__ for part in value] != [int, int]:
+        return False
+    return value[1] > 0 and value == pair(Fraction(*value))
+
+
+def is_lot(value, row, slips):
+    """Whether this is a lot of urns of so many slips that has the row."""
+    if value.__class__ is not tuple or slips < row.draws:
+        return False
+    if not all(urn.__class__ is tuple and len(urn) == 2 for urn in value):
+        return False
+    if not all(is_int(yes, 0, slips) and is_fraction(share) and share[0] > 0 for yes, share in value):
+        return False
+    if any(two[0] <= one[0] for one, two in zip(value, value[1:])):
+        return False
+    sums = [Fraction(0)] * (row.draws + 1)
+    for yes, share in value:
+        sums = [one + Fraction(*share) * two for one, two in zip(sums, urn_rates(slips, yes, row.draws))]
+    return sums == rates(row)
+
+
+def is_ascending(value, many, slips):
+    """Whether this is a tuple of so many ascending integers from 0 to the slips."""
+    if value.__class__ is not tuple or len(value) != many or not all(is_int(at, 0, slips) for at in value):
+        return False
+    return list(value) == sorted(set(value))
+
+
+def plain_accepts(claim, certificate):
+    """Whether the document calls this a claim, and a certificate for it."""
+    if claim.__class__ is not tuple or len(claim) < 2 or claim[0].__class__ is not str:
+        return False
+    kind, text, *more = claim
+    row = told_row(text)
+    parts = {"comes": 1, "misses": 1, "greatest": 1, "always": 0, "least": 2, "most": 2, "share": 3}
+    if row is None or parts.get(kind) != len(more):
+        return False
+    if kind == "always":
+        return always(row) and certificate.__class__ is tuple and certificate == ()
+    if not is_int(more[0], 1):
+        return False
+    if kind == "comes":
+        return is_lot(certificate, row, more[0])
+    if kind == "misses":
+        return plain_misses(row, more[0], certificate)
+    if certificate.__class__ is not tuple or len(certificate) != 2:
+        return False
+    if kind == "greatest":
+        return is_lot(certificate[0], row, more[0]) and plain_misses(row, more[0] + 1, certificate[1])
+    if not is_fraction(more[-1]) or not is_lot(certificate[0], row, more[0]):
+        return False
+    if kind == "share":
+        return plain_share(row, *more, *certificate)
+    return plain_end(row, *more, *certificate, 1 if kind == "least" else -1)
+
+
+def plain_misses(row, slips, points):
+    if slips < row.draws:
+        return points.__class__ is tuple and points == ()
+    if not is_ascending(points, row.draws, slips) or not is_even(points, slips):
+        return False
+    turn = sign_of(points, slips)
+    return mean_of(row, slips, lambda at: turn * product_at(points, at)) < 0
+
+
+def plain_end(row, slips, chance, lot, points, sign):
+    many = row.draws + 1
+    if slips < many or not is_ascending(points, many, slips) or not {yes for yes, _ in lot} <= set(points):
+        return False
+    right = sum(Fraction(*share) * Fraction(comb(yes, many), comb(slips, many)) for yes, share in lot)
+    return chance == pair(right) and sign_of(points, slips) == sign
+
+
+def plain_share(row, slips, yes, share, lot, points):
+    if not is_int(yes, 0, slips) or dict(lot).get(yes, (0, 1)) != share:
+        return False
+    if not is_ascending(points, row.draws, slips) or not is_even(points, slips) or yes in points:
+        return False
+    turn = sign_of(points, slips)
+    mean = mean_of(row, slips, lambda at: turn * product_at(points, at))
+    return mean == Fraction(*share) * turn * product_at(points, yes)
+
+
+def is_true(claim):
+    """Whether a claim is true, by what the other modules tell of its row."""
+    kind, text, *more = claim
+    row = Row.read(text)
+    if kind == "always":
+        return always(row)
+    if kind in ("comes", "misses"):
+        return holds(row, (kind, more[0]))
+    if kind == "greatest":
+        return greatest(row) == more[0]
+    if kind == "share":
+        return most_share(row, more[0], more[1]) == more[2]
+    return next_chances(row, more[0])[("least", "most").index(kind)] == more[1]
+
+
+def otherwise(value):
+    """The value with one part otherwise, at any place and depth; also some that are as it is."""
+    yield from (None, (), [], {}, "", Odd())
+    if value.__class__ is int:
+        yield from (value + 1, value - 1, -value, 2 * value, 0, 1, True, False, str(value), Fraction(value), MOST, 10 ** 40)
+        yield from ((value,), [value], (value, 1))
+    elif value.__class__ is str:
+        yield from (value + " ", " " + value, value + "\n", value[1:], value[:-1], value.upper(), value.encode(), 0, True)
+        yield from ((value,), [value], value.split("\n"))
+        yield from ("comes", "misses", "greatest", "always", "least", "most", "share")
+        lines = value.split("\n")
+        for other in turns(lines):
+            yield "\n".join(other)
+        for at in range(len(value)):
+            yield from (value[:at] + sign + value[at + 1:] for sign in ("", "0", "1", "7", " "))
+    elif value.__class__ is tuple:
+        yield from (list(value), (value,), dict(enumerate(value)), True, 0, value * 2)
+        yield from ((*value, 0), (0, *value), (*value, ()), (*value, (0, (1, 1))))
+        for other in turns(list(value)):
+            yield tuple(other)
+        for at, part in enumerate(value):
+            for other in otherwise(part):
+                yield (*value[:at], other, *value[at + 1:])
+
+
+def turns(parts):
+    """Parts in another sequence, with one left out, twice, or exchanged."""
+    yield parts[::-1]
+    for at in range(len(parts)):
+        yield parts[:at] + parts[at + 1:]
+        yield parts[:at] + parts[at:at + 1] + parts[at:]
+        yield parts[:at] + parts[at + 1:at + 2] + parts[at:at + 1] + parts[at + 2:]
 
 
 def given(error, values):

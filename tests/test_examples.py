@@ -2,9 +2,13 @@
 
 import unittest
 
-from drawnmore.errors import InvalidCounts, InvalidNumber, NoChance, NoUrns
+from drawnmore.certificates import certify_comes, certify_greatest, certify_next
+from drawnmore.checker import accepts
+from drawnmore.consoles import Console
+from drawnmore.errors import Broken, InvalidCounts, InvalidNumber, NoChance, NoUrns
 from drawnmore.extending import against, always, comes, greatest, urns
 from drawnmore.further import least_share, most_share, next_chances, next_yes, stretch
+from drawnmore.libraries import Library
 from drawnmore.making import all_yes, behind, coin_row, fewer, mixed, swapped, urn_row, urns_row
 from drawnmore.mends import holds, mends
 from drawnmore.rows import Row
@@ -146,6 +150,63 @@ class Examples(Case):
 
     def test_no_watch(self):
         self.assert_raises(NoChance, None, Watch(self.unlike).tried, lambda own: (own.note(True), own.note(True)))
+
+    def test_consoles(self):
+        console = Console()
+        self.assertEqual(
+            [
+                console.do("row a 1 4 1"), console.do("row b 2 4 2"), console.do("counts b"), console.do("comes a 4"),
+                console.do("comes a 5"), console.do("greatest a"), console.do("greatest b"), console.do("next a 1 4"),
+                console.do("next a 1 5"),
+            ],
+            ["put", "put", "1 2 1", "yes", "no", "4", "always", "1/2 1/2", "none"],
+        )
+        self.assertEqual(
+            [
+                console.do("row c 0 0"), console.do("row C 1 1"), console.do("drop a"), console.do("comes a 4"),
+                console.do("undo"), console.do("comes a 0"), console.names,
+            ],
+            ["no row", "no name", "dropped", "no such row", "undone", "no such line", ("a", "b")],
+        )
+
+    def test_libraries(self):
+        library = Library()
+        library["all"] = self.mostly
+        library.wish("all", ("comes", 4))
+        self.assertEqual(
+            [library.names, library.wishes, library.changes, "all" in library],
+            [("all",), (("all", ("comes", 4)),), 2, True],
+        )
+        self.assert_raises(Broken, ("index", 0), library.__setitem__, "all", self.unlike)
+
+    def test_certificates(self):
+        mostly, evenly = self.mostly, Row((1, 2, 1))
+        found = (
+            certify_comes(mostly, 4), certify_comes(mostly, 5), certify_greatest(mostly), certify_greatest(evenly),
+            *certify_next(evenly, 4),
+        )
+        self.assertEqual(
+            [
+                [accepts(*pair) for pair in found], [pair[0][0] for pair in found], found[0][1], found[1][1],
+                found[4][0][2:], found[5][0][2:],
+            ],
+            [
+                [True, True, True, True, True, True], ["comes", "misses", "greatest", "always", "least", "most"],
+                ((2, (1, 1)),), (2, 3), (4, (1, 12)), (4, (1, 6)),
+            ],
+        )
+
+    def test_checker(self):
+        unlike, mostly = self.unlike, self.mostly
+        self.assertEqual(
+            [
+                accepts(("misses", unlike.text, 3), (1, 2)), accepts(("misses", unlike.text, 3), (0, 3)),
+                accepts(("comes", unlike.text, 2), ((1, (1, 1)),)),
+                accepts(("least", Row((1, 1)).text, 2, (0, 1)), (((1, (1, 1)),), (1, 2))),
+                accepts(("always", mostly.text), ()),
+            ],
+            [True, False, True, True, False],
+        )
 
 
 if __name__ == "__main__":

@@ -23,6 +23,10 @@ INTERFACE = {
     "further.py": {"next_chances", "next_yes", "most_share", "least_share", "stretch"},
     "mends.py": {"holds", "mends"},
     "watches.py": {"Watch"},
+    "consoles.py": {"Console"},
+    "libraries.py": {"Library"},
+    "checker.py": {"accepts"},
+    "certificates.py": {"certify_comes", "certify_greatest", "certify_next", "certify_share"},
 }
 CLASS_METHODS = {
     ("rows.py", "Row"): {
@@ -30,6 +34,11 @@ CLASS_METHODS = {
     },
     ("watches.py", "Watch"): {
         "note", "undo", "row", "noted", "rest", "trial", "tried", "__len__", "__bool__",
+    },
+    ("consoles.py", "Console"): {"do", "names"},
+    ("libraries.py", "Library"): {
+        "__setitem__", "__getitem__", "remove", "wish", "lift", "undo", "names", "wishes", "changes", "__contains__",
+        "__len__", "__bool__", "trial", "tried",
     },
 }
 
@@ -63,6 +72,10 @@ DOUBLE = set(
     "__init__ __eq__ __repr__ __str__ __len__ __enter__ __exit__ __call__ __iter__ __lt__ __le__ __gt__ __ge__ __ne__"
     " __contains__ __getitem__ __setitem__ __bool__ __add__ __sub__ __mul__ __neg__".split()
 )
+PARAMETERS = {
+    "__getitem__": ["self", "at"], "__setitem__": ["self", "at", "worth"], "__contains__": ["self", "x"],
+    "__bool__": ["self"], "__iter__": ["self"], "__enter__": ["self"], "__exit__": ["self", "kind", "value", "trace"],
+}
 STATEMENTS = (
     ast.Assign, ast.AugAssign, ast.If, ast.While, ast.For, ast.Return, ast.Break, ast.Continue, ast.Pass, ast.Raise,
     ast.Assert, ast.Delete, ast.Nonlocal, ast.Match, ast.With, ast.Try, ast.Expr, ast.FunctionDef, ast.ClassDef,
@@ -270,10 +283,15 @@ class Sight:
         if node.name == "__init__" and returns:
             self.say("L28", node, "__init__ returns")
         if node.name == "__exit__":
-            for part in node.body:
-                plain = isinstance(part, ast.Pass) or isinstance(part, ast.Assign) and len(part.targets) == 1
-                if not plain or not all(isinstance(inner, NAMED) for inner in ast.walk(part)):
-                    self.say("L6", part, "__exit__")
+            self.see_exit(node.body)
+        if node.name in PARAMETERS:
+            names = [part.arg for part in node.args.args]
+            if names != PARAMETERS[node.name] or ast.unparse(node.args) != ", ".join(names) or node.decorator_list:
+                self.say("L5", node, node.name)
+        if node.name == "__getitem__":
+            given = [part for part in owner.body if getattr(part, "name", None) == "__iter__"]
+            if len(given) != 1 or not ast.unparse(given[0].body[-1]).startswith("raise TypeError("):
+                self.say("L5", node, "no __iter__ that raises TypeError")
         if node.name == "__len__":
             for value in returns:
                 if not isinstance(value, ast.Constant) and not ast.unparse(value).startswith("len("):
@@ -288,6 +306,20 @@ class Sight:
             asked = f"isinstance(other, {owner.name})"
             if not start.startswith((f"return {asked} and ", f"if not {asked}:")):
                 self.say("L28", node, "__eq__")
+
+    def see_exit(self, body):
+        """Plain assignments, also where the kind is asked whether it is None."""
+        for part in body:
+            if isinstance(part, ast.If):
+                if ast.unparse(part.test) not in ("kind is None", "kind is not None"):
+                    self.say("L6", part, "__exit__ asks")
+                self.see_exit([*part.body, *part.orelse])
+                continue
+            plain = isinstance(part, ast.Pass) or isinstance(part, ast.Assign) and len(part.targets) == 1
+            inner = list(ast.walk(part))
+            read = {one.id for one in inner if isinstance(one, ast.Name)} & {"value", "trace"}
+            if not plain or read or not all(isinstance(one, NAMED) for one in inner):
+                self.say("L6", part, "__exit__")
 
     def see_call(self, node):
         if isinstance(node.func, ast.Attribute):
@@ -441,10 +473,18 @@ BAD = {
            "def f():\n    from math import gcd"],
     "L3": ["print(1)", "x = f(1)", "if True:\n    x = 1", "for x in (1, 2):\n    y = x"],
     "L4": ["def f(x=g()):\n    return x", "@g\ndef f():\n    return 1"],
-    "L5": ["class A:\n    def __hash__(self):\n        return 1"],
+    "L5": ["class A:\n    def __hash__(self):\n        return 1",
+           "class A:\n    def __getitem__(self, at):\n        return self.x[at]",
+           "class A:\n    def __getitem__(self, at):\n        return self.x[at]\n\n    def __iter__(self):\n"
+           "        return 1",
+           "class A:\n    def __contains__(self, x, y=1):\n        return x == y",
+           "class A:\n    def __setitem__(self, *many):\n        self.x = many"],
     "L6": ["def f():\n    global x", "async def f():\n    return 1", "def f(x):\n    x + 1",
            "class A:\n    def __exit__(self, kind, value, trace):\n        self.x = f()",
-           "class A:\n    def __exit__(self, kind, value, trace):\n        self.x.pop()"],
+           "class A:\n    def __exit__(self, kind, value, trace):\n        self.x.pop()",
+           "class A:\n    def __exit__(self, kind, value, trace):\n        if value is None:\n            self.x = 1",
+           "class A:\n    def __exit__(self, kind, value, trace):\n        self.x = value",
+           "class A:\n    def __exit__(self, kind, value, trace):\n        if kind is None:\n            self.x = f()"],
     "L7": ["x = 1.5", "def f(x):\n    return x / 2", "def f(x):\n    return any(y for y in x)", "x = b''",
            "def f(x):\n    return gcd(*x)\nfrom math import gcd"],
     "L8": ["def f(x):\n    return round(x)", "def f(x):\n    print(x)", "def f(x):\n    return open(x)",
